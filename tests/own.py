@@ -1,0 +1,263 @@
+"""What the tests share: their own sums, by Python's Fraction, and ways to call and to spoil."""
+
+from fractions import Fraction
+from inspect import signature
+from itertools import combinations
+from random import Random
+
+
+# Pairs of the package and Fractions of Python's own.
+
+
+def number(pair):
+    return Fraction(pair[0], pair[1])
+
+
+def numbers(row):
+    return [number(pair) for pair in row]
+
+
+def number_rows(table):
+    return [numbers(row) for row in table]
+
+
+def pair(value):
+    value = Fraction(value)
+    return (value.numerator, value.denominator)
+
+
+def row(*values):
+    return tuple(pair(value) for value in values)
+
+
+def table(*rows):
+    return tuple(row(*values) for values in rows)
+
+
+def poly(*values):
+    """The POLY with these numbers, that of power 0 first."""
+    values = list(values)
+    while values and values[-1] == 0:
+        values.pop()
+    return row(*values)
+
+
+def rooted(*roots):
+    """The monic POLY that is 0 at just these numbers, each as often as it is told."""
+    found = [Fraction(1)]
+    for root in roots:
+        found = own_product(found, [-Fraction(root), Fraction(1)])
+    return row(*found)
+
+
+# Sums of the tests' own: of lists of Fractions.
+
+
+def own_shown(one, other):
+    return sum((first * second for first, second in zip(one, other)), Fraction(0))
+
+
+def own_applied(rows, cells):
+    return [own_shown(line, cells) for line in rows]
+
+
+def own_times(one, other):
+    return [[own_shown(line, column) for column in zip(*other)] for line in one]
+
+
+def own_det(rows):
+    """By the first row."""
+    if not rows:
+        return Fraction(1)
+    total = Fraction(0)
+    for place, value in enumerate(rows[0]):
+        if value:
+            rest = [line[:place] + line[place + 1:] for line in rows[1:]]
+            total += (-1) ** place * value * own_det(rest)
+    return total
+
+
+def own_rank(rows):
+    """The greatest number of rows and columns, as many, whose determinant is not 0."""
+    if not rows:
+        return 0
+    for many in range(min(len(rows), len(rows[0])), 0, -1):
+        for lines in combinations(rows, many):
+            for places in combinations(range(len(rows[0])), many):
+                if own_det([[line[place] for place in places] for line in lines]):
+                    return many
+    return 0
+
+
+def own_in(rows, cells):
+    """Whether cells are a sum of rows, so many times each."""
+    return own_rank(list(rows) + [cells]) == own_rank(list(rows))
+
+
+def own_within(rows, others):
+    return own_rank(list(rows) + list(others)) == own_rank(list(others))
+
+
+def own_sum(one, other):
+    long = max(len(one), len(other))
+    first, second = list(one) + [0] * (long - len(one)), list(other) + [0] * (long - len(other))
+    return own_trimmed([Fraction(a) + b for a, b in zip(first, second)])
+
+
+def own_trimmed(values):
+    values = list(values)
+    while values and values[-1] == 0:
+        values.pop()
+    return values
+
+
+def own_product(one, other):
+    found = [Fraction(0)] * max(0, len(one) + len(other) - 1)
+    for place, value in enumerate(one):
+        for beyond, much in enumerate(other):
+            found[place + beyond] += value * much
+    return own_trimmed(found)
+
+
+def own_at(values, at):
+    return sum((value * at ** power for power, value in enumerate(values)), Fraction(0))
+
+
+def own_poly_det(rows):
+    """Of rows of lists of Fractions, by the first row."""
+    if not rows:
+        return [Fraction(1)]
+    total = []
+    for place, values in enumerate(rows[0]):
+        rest = [line[:place] + line[place + 1:] for line in rows[1:]]
+        total = own_sum(total, own_product([Fraction((-1) ** place)], own_product(values, own_poly_det(rest))))
+    return total
+
+
+def own_table_poly(rows):
+    """The determinant of x on the diagonal less the rows."""
+    return own_poly_det([
+        [own_sum([0, 1] if place == column else [], [-value]) for column, value in enumerate(line)]
+        for place, line in enumerate(rows)
+    ])
+
+
+# Inputs by the way of dice that always fall alike.
+
+
+def dice(seed):
+    return Random(seed)
+
+
+def some_row(die, long, low=-2, high=2, bottoms=(1, 1, 1, 2, 3)):
+    return row(*[Fraction(die.randint(low, high), die.choice(bottoms)) for _ in range(long)])
+
+
+def some_table(die, many, long, **more):
+    return tuple(some_row(die, long, **more) for _ in range(many))
+
+
+def great_row(die, long):
+    return row(*[Fraction(die.randint(-10 ** 40, 10 ** 40), die.randint(1, 10 ** 6)) for _ in range(long)])
+
+
+def great_table(die, many, long):
+    return tuple(great_row(die, long) for _ in range(many))
+
+
+def some_plant(die, cells, hands, most=2, **more):
+    """A PLANT with so many cells and hands, each with up to so many levers and gauges."""
+    return (
+        some_table(die, cells, cells, **more),
+        tuple(
+            (some_table(die, die.randint(0, most), cells, **more), some_table(die, die.randint(0, most), cells, **more))
+            for _ in range(hands)
+        ),
+    )
+
+
+def some_rules(die, plant, **more):
+    return tuple(some_table(die, len(levers), len(gauges), **more) for levers, gauges in plant[1])
+
+
+# Calls.
+
+
+def listed(value):
+    """A list in the place of each tuple, at any depth."""
+    if isinstance(value, (tuple, list)):
+        return [listed(part) for part in value]
+    return value
+
+
+def lists_within(value):
+    if isinstance(value, list):
+        return True
+    return isinstance(value, tuple) and any(lists_within(part) for part in value)
+
+
+def ways_to_call(function, arguments):
+    """By position and by names, with tuples and with lists; a thing stays what it is."""
+    names = list(signature(function).parameters)
+    with_lists = tuple(
+        argument if name == "thing" else listed(argument) for name, argument in zip(names, arguments)
+    )
+    return [(arguments, {}), ((), dict(zip(names, arguments))), (with_lists, {}), ((), dict(zip(names, with_lists)))]
+
+
+def asked(case, function, *arguments):
+    """What the function returns, which is the same however it is called, and changes nothing."""
+    found = function(*arguments)
+    for by_place, by_name in ways_to_call(function, arguments):
+        ahead = repr((by_place, by_name))
+        case.assertEqual(repr(function(*by_place, **by_name)), repr(found), function.__name__)
+        case.assertEqual(repr((by_place, by_name)), ahead, function.__name__)
+    return found
+
+
+def refused(case, error, values, function, *arguments):
+    """The function raises this error, with these values by name, however it is called."""
+    for by_place, by_name in ways_to_call(function, arguments):
+        with case.assertRaises(error) as held:
+            function(*by_place, **by_name)
+        case.assertIs(held.exception.__class__, error)
+        for name, value in values.items():
+            case.assertEqual(repr(getattr(held.exception, name)), repr(value), function.__name__)
+
+
+# Things that are none.
+
+OTHER_THINGS = (None, True, False, 0, 1, -1, "", "1", "lever", (None,), (True,), ("",), [], [()], ((),) * 14, (((1, 1),), 1))
+
+NO_FRACTIONS = (
+    (2, 4), (1, 0), (1, -2), (-1, -1), (0, 2), (0, -1), (0, 0), (True, 1), (False, 1), (1, True), (1,), (1, 1, 1), (),
+    [1, 1], "11", ("1", 1), (1, None), (None, 1), None, 1, 0, True, ((1, 1), 1), ((1,), 1), "a",
+)
+
+
+def spoiled(thing):
+    """The thing with one flaw each, by which it is none of what it was made of."""
+    found = []
+    if isinstance(thing, tuple):
+        found.extend([list(thing), None, True, 5, "ab", [None]])
+        if len(thing) == 2 and all(isinstance(part, int) for part in thing):
+            found.extend([(2 * thing[0], 2 * thing[1]), (thing[0], -thing[1]), thing + (1,), thing[:1]])
+            if thing[0] == 0:
+                found.append((0, 2))
+        for place, part in enumerate(thing):
+            found.extend([thing[:place] + (other,) + thing[place + 1:] for other in spoiled(part)])
+    elif isinstance(thing, int):
+        found.extend([None, str(thing), (thing,), ()])
+        if thing in (0, 1):
+            found.append(bool(thing))
+    else:
+        found.extend([None, 0])
+    return found
+
+
+def is_none_spoiled(case, function, *arguments):
+    """The function takes the thing among these arguments, and nothing that is spoiled in its place."""
+    case.assertIs(asked(case, function, *arguments), True)
+    place = list(signature(function).parameters).index("thing")
+    for other in spoiled(arguments[place]):
+        case.assertIs(function(*arguments[:place], other, *arguments[place + 1:]), False, other)
