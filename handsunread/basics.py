@@ -25,6 +25,26 @@ def is_fraction(thing):
     return thing[1] >= 1 and gcd(thing[0], thing[1]) == 1
 
 
+def is_ascending(parts):
+    """Whether each part is less than the next one; so none stands there twice."""
+    return all([one < other for one, other in zip(parts, parts[1:])])
+
+
+def is_places(thing, many):
+    """Whether thing is a set of numbers from 0 to below many."""
+    if not isinstance(thing, tuple) or not all([is_number(part) for part in thing]):
+        return False
+    return is_ascending(thing) and all([0 <= part < many for part in thing])
+
+
+def all_places(many):
+    """All sets of numbers from 0 to below many, ascending."""
+    found = [()]
+    for number in range(many):
+        found = found + [places + (number,) for places in found]
+    return sorted(found)
+
+
 def is_row(thing, long):
     """Whether thing is a ROW of so many FRACTIONS."""
     if not isinstance(thing, tuple) or len(thing) != long:

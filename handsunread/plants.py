@@ -1,6 +1,6 @@
 """PLANTS: a table of cells, and hands with levers and gauges at it; the whole of RULES."""
 
-from handsunread.basics import NONE, ONE, fixed, is_row, none_row
+from handsunread.basics import NONE, ONE, fixed, is_number, is_places, is_row, none_row
 from handsunread.errors import NoHand, NoWire, Unfit
 from handsunread.tables import flipped, inverse, is_table, row_applied, row_read, row_sum, table_product
 
@@ -57,8 +57,46 @@ def check_wire(plant, wire):
         raise NoWire(wire)
 
 
+def is_lot(plant, thing):
+    """Whether thing is a set of hands of the PLANT."""
+    return is_places(thing, len(plant[1]))
+
+
+def all_hands(plant):
+    return tuple(range(len(plant[1])))
+
+
+def levers_of(plant, lot):
+    """All levers of these hands, hand by hand."""
+    return tuple([lever for hand in lot for lever in plant[1][hand][0]])
+
+
+def gauges_of(plant, lot):
+    """All gauges of these hands, hand by hand."""
+    return tuple([gauge for hand in lot for gauge in plant[1][hand][1]])
+
+
+def others_than(plant, lot):
+    """The set of the hands that are not in the lot."""
+    return tuple([hand for hand in range(len(plant[1])) if hand not in lot])
+
+
+def is_wire(plant, thing):
+    """Whether thing is a WIRE that the PLANT has."""
+    if not isinstance(thing, tuple) or len(thing) != 3:
+        return False
+    hand, word, number = thing
+    if not is_number(hand) or not isinstance(word, str) or not is_number(number):
+        return False
+    return thing in wires_of(plant)
+
+
 def wires(plant):
-    plant = fixed(plant)
+    return wires_of(fixed(plant))
+
+
+def wires_of(plant):
+    """The set of all WIRES, of a PLANT that is tuples throughout already."""
     found = []
     for hand, (levers, gauges) in enumerate(plant[1]):
         # Ascending by the words, too.
@@ -162,14 +200,10 @@ def joined_hands(plant, lot):
     check_lot(plant, lot)
     if not lot:
         raise Unfit()
-    levers, gauges = (), ()
-    for hand in lot:
-        levers = levers + plant[1][hand][0]
-        gauges = gauges + plant[1][hand][1]
     hands = []
     for hand, own in enumerate(plant[1]):
         if hand == lot[0]:
-            hands.append((levers, gauges))
+            hands.append((levers_of(plant, lot), gauges_of(plant, lot)))
         elif hand not in lot:
             hands.append(own)
     return plant[0], tuple(hands)

@@ -57,6 +57,12 @@ def row_applied(table, row):
     return tuple(found)
 
 
+def shows_some(rows, cells):
+    """Whether some of these ROWS shows other than 0 of the cells."""
+    others = cleared(cells)[0]
+    return any([dot(cleared(row)[0], others) for row in rows])
+
+
 def row_read(row, table):
     return row_applied(flipped(table), row)
 

@@ -2,7 +2,7 @@
 
 from fractions import Fraction
 from inspect import signature
-from itertools import combinations
+from itertools import combinations, permutations
 from random import Random
 
 
@@ -174,6 +174,109 @@ def some_plant(die, cells, hands, most=2, **more):
             for _ in range(hands)
         ),
     )
+
+
+def thin_row(die, long, many=4):
+    """A ROW in which about one place in so many is 1, some are -1 or 2, and all others are 0."""
+    return row(*[die.choice((1, 1, 1, -1, 2)) if die.randint(1, many) == 1 else 0 for _ in range(long)])
+
+
+def thin_table(die, rows, long, many=4):
+    return tuple(thin_row(die, long, many) for _ in range(rows))
+
+
+def thin_plant(die, cells, hands, most=2, many=4):
+    """A PLANT in which much is 0, so that often something is reached and often something is not."""
+    return (
+        thin_table(die, cells, cells, many),
+        tuple(
+            (thin_table(die, die.randint(0, most), cells, 3), thin_table(die, die.randint(0, most), cells, 3))
+            for _ in range(hands)
+        ),
+    )
+
+
+def unit_rows(die, many, long):
+    """So many ROWS, each with a number but 0 at one place alone."""
+    found = []
+    for _ in range(many):
+        at = die.randrange(long)
+        found.append(row(*[die.choice((1, 1, -1, 2)) if place == at else 0 for place in range(long)]))
+    return tuple(found)
+
+
+def chain_plant(die, cells, hands, most=1):
+    """A PLANT whose wires are at one cell each, and whose cells pass on little: WAYS over several hands are common."""
+    rows = tuple(die.choice((thin_row(die, cells, 9), unit_rows(die, 1, cells)[0])) for _ in range(cells))
+    return rows, tuple(
+        (unit_rows(die, die.randint(min(1, most), most), cells), unit_rows(die, die.randint(min(1, most), most), cells))
+        for _ in range(hands)
+    )
+
+
+def relay(die, cells, hands):
+    """A PLANT, a DIFFERENCE and a READING with a WAY over all of its hands, less than its cells, in some order."""
+    places, order = list(range(cells)), list(range(hands))
+    die.shuffle(places)
+    die.shuffle(order)
+    units = [row(*[die.choice((1, -1, 2)) if place == at else 0 for place in range(cells)]) for at in places]
+    own = {hand: ((units[at + 1],), (units[at],)) for at, hand in enumerate(order)}
+    plant = thin_table(die, cells, cells, 6), tuple(own[hand] for hand in range(hands))
+    return plant, units[0], units[hands]
+
+
+# Sums of the tests' own over PLANTS.
+
+
+def own_run(plant, cells, many):
+    """What cells, Fractions, become by the table alone: before each of so many ticks."""
+    rows, found = number_rows(plant[0]), [list(cells)]
+    for _ in range(many - 1):
+        found.append(own_applied(rows, found[-1]))
+    return found
+
+
+def own_delays(plant, starts, reads):
+    """The ticks below the number of cells before which some of reads shows other than 0 of some of starts."""
+    return tuple(
+        tick for tick in range(len(plant[0]))
+        if any(own_shown(read, own_run(plant, start, tick + 1)[tick]) for start in starts for read in reads)
+    )
+
+
+def own_reach(plant, start, reading):
+    """By each hand, or pair of hands, the delays: from the DIFFERENCE, hand to hand, to the READING."""
+    own = [(number_rows(levers), number_rows(gauges)) for levers, gauges in plant[1]]
+    first = [own_delays(plant, [numbers(start)], gauges) for _, gauges in own]
+    between = [[own_delays(plant, levers, gauges) for _, gauges in own] for levers, _ in own]
+    last = [own_delays(plant, levers, [numbers(reading)]) for levers, _ in own]
+    return first, between, last
+
+
+def own_is_way(reach, hands):
+    first, between, last = reach
+    return bool(
+        hands and first[hands[0]] and last[hands[-1]]
+        and all(between[one][other] for one, other in zip(hands, hands[1:]))
+    )
+
+
+def own_ticks(reach, hands):
+    first, between, last = reach
+    steps = [between[one][other] for one, other in zip(hands, hands[1:])]
+    return sum(delays[0] for delays in [first[hands[0]], last[hands[-1]]] + steps) + len(hands)
+
+
+def own_ways(plant, start, reading):
+    """All WAYS with no hand twice, by all rows of hands."""
+    reach = own_reach(plant, start, reading)
+    rows = [row for many in range(1, len(plant[1]) + 1) for row in permutations(range(len(plant[1])), many)]
+    return sorted(row for row in rows if own_is_way(reach, row))
+
+
+def own_kept(plant, rows):
+    """Rows that tell the least SPACE with these that the table keeps."""
+    return [cells for row in rows for cells in own_run(plant, row, len(plant[0]))]
 
 
 def some_rules(die, plant, **more):

@@ -5,7 +5,7 @@ import pathlib
 import re
 import unittest
 
-FILES = ("errors", "tables", "spaces", "polys", "ptables", "plants", "plays")
+FILES = ("errors", "tables", "spaces", "polys", "ptables", "plants", "plays", "ways", "sure", "learn", "sight")
 HERE = pathlib.Path(__file__).parent
 
 
@@ -43,7 +43,7 @@ class Examples(unittest.TestCase):
                     self.raises(asked, told[len("raises "):], names)
                 else:
                     self.assertEqual(repr(eval(asked, names)), told)
-        self.assertGreaterEqual(many, 60)
+        self.assertGreaterEqual(many, 98)
 
     def raises(self, asked, told, names):
         word, values = re.fullmatch(r"(\w+)\((.*)\)", told).groups()
@@ -53,7 +53,19 @@ class Examples(unittest.TestCase):
 
     def test_each_point_has_some(self):
         points = {point for point, _, _ in examples()}
-        self.assertEqual(points, {"[4]", "[5]", "[6]", "[7]", "[8]", "[9]"})
+        self.assertEqual(points, {"[%d]" % point for point in range(4, 14)})
+
+    def test_read_me(self):
+        names, asked, many = {}, None, 0
+        for line in (HERE.parent / "README.md").read_text(encoding="ascii").splitlines():
+            if line.startswith("    >>> "):
+                if asked:
+                    exec(asked, names)
+                asked = line[8:]
+            elif asked:
+                self.assertEqual(repr(eval(asked, names)), line.strip())
+                asked, many = None, many + 1
+        self.assertEqual((asked, many), (None, 2))
 
 
 if __name__ == "__main__":

@@ -56,6 +56,34 @@ INTERFACE = {
         "steadied": "plant, cells, steady, ticks", "shown_along": "reading, play", "apart": "one, other",
         "go_together": "plant, hand, one, other", "all_together": "plant, one, other",
     },
+    "ways": {
+        "start_delays": "plant, start, hand", "hand_delays": "plant, hand, other",
+        "reading_delays": "plant, hand, reading", "links": "plant", "first_reached": "plant, start",
+        "reached": "plant, start", "reaching": "plant, reading", "is_way": "plant, start, reading, thing",
+        "way": "plant, start, reading", "all_ways": "plant, start, reading", "ticks": "plant, start, reading, hands",
+        "soonest": "plant, start, reading", "stops": "plant, start, reading",
+    },
+    "sure": {
+        "is_sure": "plant, start, reading", "sure_paper": "plant, start, reading",
+        "is_sure_paper": "plant, start, reading, thing", "unsure_paper": "plant, start, reading",
+        "is_unsure_paper": "plant, start, reading, thing", "strayed": "plant, start, reading, clock, ticks",
+        "sure_readings": "plant, start", "sure_starts": "plant, reading", "untouched": "plant", "unseen": "plant",
+        "course": "plant, start, reading, ticks",
+    },
+    "learn": {
+        "hears": "plant, hand", "heard_by": "plant, hand", "own_sums": "plant, hand", "open_sums": "plant, hand",
+        "silent": "plant, hand", "knowing": "plant, hand, reading", "is_knowing": "plant, hand, reading, thing",
+        "hiding": "plant, hand, reading", "is_hiding": "plant, hand, reading, thing", "cut": "plant, wires",
+        "is_trail": "plant, start, reading, thing", "most_trails": "plant, start, reading",
+        "is_most_trails": "plant, start, reading, thing", "is_cut": "plant, start, reading, thing",
+        "fewest_cut": "plant, start, reading", "fewest_deaf": "plant, hand, other",
+    },
+    "sight": {
+        "moved_by": "plant, lot", "unseen_beside": "plant, lot", "is_closed": "plant, lot", "closed_lots": "plant",
+        "lot_from": "plant, lot", "sight_spaces": "plant, lot", "sight_table": "plant, lot",
+        "sight_poly": "plant, lot", "sight": "plant", "in_sight": "plant, tone", "lots_showing": "plant, tone",
+        "part_in_sight": "plant, lot, start", "next_in_sight": "plant, lot, row",
+    },
 }
 LIBRARY = {
     "math": ("gcd", "lcm", "isqrt", "comb", "perm", "factorial"),
@@ -64,12 +92,12 @@ LIBRARY = {
 }
 BUILTINS = (
     "len", "range", "enumerate", "zip", "min", "max", "sum", "abs", "sorted", "reversed", "int", "str", "bool", "list",
-    "tuple", "dict", "isinstance", "ord", "repr", "any", "all", "divmod", "ValueError", "LookupError", "KeyError",
-    "ZeroDivisionError",
+    "tuple", "dict", "set", "isinstance", "ord", "repr", "any", "all", "divmod", "ValueError", "LookupError",
+    "KeyError", "ZeroDivisionError",
 )
 METHODS = (
     "append", "copy", "count", "endswith", "extend", "find", "get", "index", "insert", "isalnum", "isalpha", "isdigit",
-    "items", "join", "keys", "lower", "partition", "pop", "replace", "reverse", "setdefault", "split", "startswith",
+    "items", "join", "keys", "lower", "partition", "pop", "remove", "replace", "reverse", "setdefault", "split", "startswith",
     "strip", "update", "upper", "values", "bit_length",
 )
 BARRED_NODES = (
@@ -242,6 +270,18 @@ class Form(unittest.TestCase):
                 if isinstance(node, ast.Call) and isinstance(node.func, ast.Name):
                     if node.func.id in ("zip", "enumerate", "reversed", "range", "combinations"):
                         self.assertIn(node, at_once, (path.name, node.lineno))
+
+    def test_sets_are_not_kept(self):
+        for path in files():
+            tree = tree_of(path)
+            at_once = [
+                part for node in ast.walk(tree)
+                if isinstance(node, ast.Call) and isinstance(node.func, ast.Name) and node.func.id in ("sorted", "len")
+                for part in node.args
+            ]
+            for node in ast.walk(tree):
+                if isinstance(node, ast.Name) and node.id == "set":
+                    self.assertIn(node, [part.func for part in at_once if isinstance(part, ast.Call)], path.name)
 
     def test_inner_comprehensions_have_names_of_their_own(self):
         for path in files():
