@@ -120,8 +120,8 @@ def cut(plant, wires):
     for wire in wires:
         check_wire(plant, wire)
     hands = []
-    for hand, own in enumerate(plant[1]):
-        hands.append(tuple([put_out(own[KINDS[word]], hand, word, wires) for word in KINDS]))
+    for hand, (levers, gauges) in enumerate(plant[1]):
+        hands.append((put_out(levers, hand, "lever", wires), put_out(gauges, hand, "gauge", wires)))
     return plant[0], tuple(hands)
 
 

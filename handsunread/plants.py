@@ -85,8 +85,8 @@ def is_wire(plant, thing):
     """Whether thing is a WIRE that the PLANT has."""
     if not isinstance(thing, tuple) or len(thing) != 3:
         return False
-    hand, word, number = thing
-    if not is_number(hand) or not isinstance(word, str) or not is_number(number):
+    # True and False are no numbers, but equal to some.
+    if not is_number(thing[0]) or not is_number(thing[2]):
         return False
     return thing in wires_of(plant)
 
@@ -126,11 +126,20 @@ def idle(plant):
 
 def all_rules(plant):
     plant = fixed(plant)
-    entries = sum([levers * gauges for levers, gauges in hand_sizes(plant)])
-    lines = [()]
-    for _ in range(entries):
-        lines = [line + (entry,) for line in lines for entry in (NONE, ONE)]
-    return [rules_of(plant, line) for line in lines]
+    return [rules_of(plant, line) for line in all_lines(entries_of(plant))]
+
+
+def entries_of(plant):
+    """How many FRACTIONS stand in RULES, those of all hands together."""
+    return sum([levers * gauges for levers, gauges in hand_sizes(plant)])
+
+
+def all_lines(many):
+    """The ascending list of all ROWS of so many (0, 1) and (1, 1)."""
+    found = [()]
+    for _ in range(many):
+        found = [line + (entry,) for line in found for entry in (NONE, ONE)]
+    return found
 
 
 def rules_of(plant, line):

@@ -162,6 +162,11 @@ def pair_common(one, other):
     return tuple([(number, 1) for number in first])
 
 
+def have_common(one, other):
+    """Whether two POLYS, not both (), have a factor in common."""
+    return len(pair_common(one, other)) > 1
+
+
 def greatest_common(polys):
     found = ()
     for poly in fixed(polys):

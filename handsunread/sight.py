@@ -3,7 +3,7 @@
 from handsunread.basics import all_places, fixed
 from handsunread.errors import Unfit
 from handsunread.plants import check_lot, levers_of, others_than
-from handsunread.polys import least_common, pair_common, table_poly
+from handsunread.polys import have_common, least_common, table_poly
 from handsunread.spaces import is_in, kept_with, over, rest_of, zeros_of
 from handsunread.sure import hidden_from
 from handsunread.tables import leads, rest_off, row_applied
@@ -85,11 +85,6 @@ def closed_polys(plant):
 def sight(plant):
     found = closed_polys(fixed(plant))
     return least_common([found[lot] for lot in found])
-
-
-def have_common(one, other):
-    """Whether the two POLYS have a factor in common."""
-    return len(pair_common(one, other)) > 1
 
 
 def in_sight(plant, tone):

@@ -142,6 +142,41 @@ def own_table_poly(rows):
     ])
 
 
+def own_divided(one, other):
+    """The rest of one divided by other, which is not 0."""
+    rest = own_trimmed(one)
+    while len(rest) >= len(other):
+        much = rest[-1] / Fraction(other[-1])
+        shift = len(rest) - len(other)
+        rest = [value - (much * other[at - shift] if at >= shift else 0) for at, value in enumerate(rest)]
+        rest = own_trimmed(rest[:-1])
+    return rest
+
+
+def own_common(polys):
+    """The greatest monic divisor of all of these, [] if all are 0."""
+    found = []
+    for values in polys:
+        other = own_trimmed(values)
+        while other:
+            found, other = other, own_divided(found, other)
+    return [value / Fraction(found[-1]) for value in found]
+
+
+def own_swift_rank(rows):
+    """By taking off one row after the other."""
+    work, found = [list(map(Fraction, line)) for line in rows], 0
+    for column in range(len(work[0]) if work else 0):
+        places = [at for at, line in enumerate(work) if line[column]]
+        if places:
+            pivot = work.pop(places[0])
+            work = [
+                [value - line[column] / pivot[column] * other for value, other in zip(line, pivot)] for line in work
+            ]
+            found += 1
+    return found
+
+
 # Inputs by the way of dice that always fall alike.
 
 

@@ -5,7 +5,10 @@ import pathlib
 import re
 import unittest
 
-FILES = ("errors", "tables", "spaces", "polys", "ptables", "plants", "plays", "ways", "sure", "learn", "sight")
+FILES = (
+    "errors", "tables", "spaces", "polys", "ptables", "plants", "plays", "ways", "sure", "learn", "sight", "sheets",
+    "partings", "staying",
+)
 HERE = pathlib.Path(__file__).parent
 
 
@@ -43,7 +46,7 @@ class Examples(unittest.TestCase):
                     self.raises(asked, told[len("raises "):], names)
                 else:
                     self.assertEqual(repr(eval(asked, names)), told)
-        self.assertGreaterEqual(many, 98)
+        self.assertGreaterEqual(many, 125)
 
     def raises(self, asked, told, names):
         word, values = re.fullmatch(r"(\w+)\((.*)\)", told).groups()
@@ -53,7 +56,7 @@ class Examples(unittest.TestCase):
 
     def test_each_point_has_some(self):
         points = {point for point, _, _ in examples()}
-        self.assertEqual(points, {"[%d]" % point for point in range(4, 14)})
+        self.assertEqual(points, {"[%d]" % point for point in range(4, 17)})
 
     def test_read_me(self):
         names, asked, many = {}, None, 0

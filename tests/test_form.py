@@ -84,6 +84,21 @@ INTERFACE = {
         "sight_poly": "plant, lot", "sight": "plant", "in_sight": "plant, tone", "lots_showing": "plant, tone",
         "part_in_sight": "plant, lot, start", "next_in_sight": "plant, lot, row",
     },
+    "sheets": {
+        "is_sheet": "thing", "filled": "sheet, numbers", "count_of": "sheet, rows, columns", "greatest_rank": "sheet",
+        "tight_windows": "sheet", "rank_paper": "sheet, number", "is_rank_paper": "sheet, number, thing",
+        "needed": "sheet", "low_filling": "sheet",
+    },
+    "partings": {
+        "parting": "plant, lot", "parting_divisor": "plant, lot", "parted_multiple": "plant",
+        "is_short": "plant, lot, tone", "short_lots": "plant, tone", "rank_at": "plant, lot, number",
+        "lowest_lots": "plant, number", "rank_rules": "plant, number", "is_rank_rules": "plant, number, thing",
+    },
+    "staying": {
+        "stay": "plant", "stays": "plant, tone", "stays_often": "plant, tone", "held_part": "plant, tone",
+        "shared_by": "plant, some", "free_rules": "plant, tone", "stay_paper": "plant, tone",
+        "is_stay_paper": "plant, tone, thing", "few_rules": "plant", "is_few_rules": "plant, thing",
+    },
 }
 LIBRARY = {
     "math": ("gcd", "lcm", "isqrt", "comb", "perm", "factorial"),

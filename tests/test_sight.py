@@ -6,7 +6,7 @@ from itertools import combinations
 
 from handsunread.errors import NoHand, Unfit
 from handsunread.plants import whole
-from handsunread.plays import apart, idled, played
+from handsunread.plays import apart, played
 from handsunread.polys import divided, divides, greatest_common, is_poly, is_tone, table_poly
 from handsunread.sight import (
     closed_lots, in_sight, is_closed, lot_from, lots_showing, moved_by, next_in_sight, part_in_sight, sight, sight_poly,

@@ -280,6 +280,16 @@ class Stops(unittest.TestCase):
         # Just as soon by two hands as by one: the fewest hands count.
         self.assertEqual(soonest(blind, row(0, 1), row(0, 1)), 2)
 
+    def test_just_as_soon(self):
+        start = reading = row(1, 0, 0)
+        # As many ticks by (0, 1) as by (1,): though (0, 1) is less, the fewest hands count.
+        slow = (table((0, 0, 0), (1, 0, 0), (0, 0, 0)), (
+            (table((0, 0, 1)), table((1, 0, 0))), (table((1, 0, 0)), table((0, 1, 1))),
+        ))
+        self.assertEqual(all_ways(slow, start, reading), [(0, 1), (1,)])
+        self.assertEqual([ticks(slow, start, reading, own) for own in ((0, 1), (1,))], [2, 2])
+        self.assertEqual(asked(self, stops, slow, start, reading), ((1, 0, 0, 1),))
+
     def test_what_they_do(self):
         kinds = set()
         for die, plant, start, reading in plants_of(107, 110):
