@@ -7,7 +7,7 @@ import unittest
 
 FILES = (
     "errors", "tables", "spaces", "polys", "ptables", "plants", "plays", "ways", "sure", "learn", "sight", "sheets",
-    "partings", "staying",
+    "partings", "staying", "memory", "wires", "rest", "beside",
 )
 HERE = pathlib.Path(__file__).parent
 
@@ -46,7 +46,7 @@ class Examples(unittest.TestCase):
                     self.raises(asked, told[len("raises "):], names)
                 else:
                     self.assertEqual(repr(eval(asked, names)), told)
-        self.assertGreaterEqual(many, 125)
+        self.assertGreaterEqual(many, 165)
 
     def raises(self, asked, told, names):
         word, values = re.fullmatch(r"(\w+)\((.*)\)", told).groups()
@@ -56,7 +56,7 @@ class Examples(unittest.TestCase):
 
     def test_each_point_has_some(self):
         points = {point for point, _, _ in examples()}
-        self.assertEqual(points, {"[%d]" % point for point in range(4, 17)})
+        self.assertEqual(points, {"[%d]" % point for point in range(4, 21)})
 
     def test_read_me(self):
         names, asked, many = {}, None, 0

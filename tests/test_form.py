@@ -99,6 +99,32 @@ INTERFACE = {
         "shared_by": "plant, some", "free_rules": "plant, tone", "stay_paper": "plant, tone",
         "is_stay_paper": "plant, tone, thing", "few_rules": "plant", "is_few_rules": "plant, thing",
     },
+    "memory": {
+        "is_program": "plant, hand, thing", "steady_whole": "plant, steady", "steady_poly": "plant, steady",
+        "beyond_stay": "plant, steady", "greater_plant": "plant, memory", "as_rules": "plant, steady",
+        "as_steady": "plant, memory, rules", "rules_at": "plant, steady, much",
+        "answers": "plant, hand, program, many", "alike": "plant, hand, one, other",
+        "fewest_memories": "plant, hand, program", "leanest": "plant, hand, program",
+        "is_leanest": "plant, hand, program, thing",
+    },
+    "wires": {
+        "without_wire": "plant, wire", "is_offer": "plant, thing", "with_offers": "plant, offers",
+        "with_talks": "plant, talks", "needless": "plant, tone", "bar": "plant, offers, talks, tone",
+        "is_bar": "plant, offers, talks, tone, thing", "fewest_offers": "plant, offers, tone",
+        "cheapest_offers": "plant, offers, prices, tone", "fewest_talks": "plant, tone",
+    },
+    "rest": {
+        "schur_row": "poly", "dies_out": "poly", "table_dies": "table", "calm_after": "table, many",
+        "is_calm": "table, many", "rests": "plant, rules", "steady_rests": "plant, steady", "first_rules": "plant",
+        "never_rests": "plant", "surely_restless": "plant", "held_alone": "plant", "is_held_alone": "plant, tone",
+        "powered": "tone, many", "round_of": "plant, clock", "clock_moves": "plant, clock, tone",
+        "first_clock": "plant, tone",
+    },
+    "beside": {
+        "beside": "plant, other", "in_row": "plant, other, link", "round_about": "plant, other, link, back",
+        "late_gauge": "plant, hand, number", "late_lever": "plant, hand, number", "part_of": "plant, cells, hands",
+        "pieces_in_row": "plant", "is_in_row": "plant, thing", "stay_by_pieces": "plant",
+    },
 }
 LIBRARY = {
     "math": ("gcd", "lcm", "isqrt", "comb", "perm", "factorial"),
