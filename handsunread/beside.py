@@ -134,8 +134,8 @@ def is_in_row(plant, thing):
     plant = fixed(plant)
     if not isinstance(thing, tuple) or not all([is_piece(plant, piece) for piece in thing]):
         return False
-    every = [cell for cells, _ in thing for cell in cells]
-    hands = [hand for _, lot in thing for hand in lot]
+    every = [cell for piece in thing for cell in piece[0]]
+    hands = [hand for piece in thing for hand in piece[1]]
     if sorted(every) != list(range(len(plant[0]))) or sorted(hands) != list(all_hands(plant)):
         return False
     for place, (cells, lot) in enumerate(thing):

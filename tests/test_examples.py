@@ -5,9 +5,11 @@ import pathlib
 import re
 import unittest
 
+from tests.test_form import INTERFACE
+
 FILES = (
     "errors", "tables", "spaces", "polys", "ptables", "plants", "plays", "ways", "sure", "learn", "sight", "sheets",
-    "partings", "staying", "memory", "wires", "rest", "beside",
+    "partings", "staying", "memory", "wires", "rest", "beside", "judge", "texts", "board", "desk",
 )
 HERE = pathlib.Path(__file__).parent
 
@@ -16,7 +18,7 @@ def all_names():
     names = {}
     for file in FILES:
         module = importlib.import_module("handsunread." + file)
-        names.update({name: value for name, value in vars(module).items() if not name.startswith("_")})
+        names.update({name: value for name, value in vars(module).items() if name in INTERFACE[file]})
     return names
 
 
@@ -46,7 +48,7 @@ class Examples(unittest.TestCase):
                     self.raises(asked, told[len("raises "):], names)
                 else:
                     self.assertEqual(repr(eval(asked, names)), told)
-        self.assertGreaterEqual(many, 165)
+        self.assertGreaterEqual(many, 205)
 
     def raises(self, asked, told, names):
         word, values = re.fullmatch(r"(\w+)\((.*)\)", told).groups()
@@ -56,7 +58,7 @@ class Examples(unittest.TestCase):
 
     def test_each_point_has_some(self):
         points = {point for point, _, _ in examples()}
-        self.assertEqual(points, {"[%d]" % point for point in range(4, 21)})
+        self.assertEqual(points, {"[%d]" % point for point in range(4, 25)})
 
     def test_read_me(self):
         names, asked, many = {}, None, 0
@@ -68,7 +70,7 @@ class Examples(unittest.TestCase):
             elif asked:
                 self.assertEqual(repr(eval(asked, names)), line.strip())
                 asked, many = None, many + 1
-        self.assertEqual((asked, many), (None, 2))
+        self.assertEqual((asked, many), (None, 3))
 
 
 if __name__ == "__main__":

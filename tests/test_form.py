@@ -125,6 +125,23 @@ INTERFACE = {
         "late_gauge": "plant, hand, number", "late_lever": "plant, hand, number", "part_of": "plant, cells, hands",
         "pieces_in_row": "plant", "is_in_row": "plant, thing", "stay_by_pieces": "plant",
     },
+    "judge": {
+        "is_claim": "thing", "is_so": "claim", "paper": "claim", "is_paper": "claim, thing", "shows": "claim, thing",
+        "about": "claim, plant", "not_so": "claims", "turned_by": "claims, plant",
+    },
+    "texts": {
+        "fraction_text": "fraction", "row_text": "row", "sheet_text": "sheet", "poly_text": "poly",
+        "rules_text": "rules", "clock_text": "clock", "plant_text": "plant", "fraction_in": "text", "row_in": "text",
+        "sheet_in": "text", "poly_in": "text", "rules_in": "text", "clock_in": "text", "plant_in": "text",
+    },
+    "board": {"Board": "plant"},
+    "desk": {"is_request": "line", "replies": "plant, text", "last_plant": "plant, text"},
+}
+BOARD = {
+    "plant": "", "first": "", "deeds": "", "__len__": "", "behind": "m", "cell": "i, j, x", "lever": "hand, row",
+    "gauge": "hand, row", "cut": "wire", "hand": "", "drop": "hand", "join": "lot", "do": "deed", "undo": "",
+    "redo": "", "is_sure": "start, reading", "way": "start, reading", "turns": "start, reading", "free_turns": "tone",
+    "blamed": "start, reading", "is_plan": "deeds",
 }
 LIBRARY = {
     "math": ("gcd", "lcm", "isqrt", "comb", "perm", "factorial"),
@@ -139,13 +156,14 @@ BUILTINS = (
 METHODS = (
     "append", "copy", "count", "endswith", "extend", "find", "get", "index", "insert", "isalnum", "isalpha", "isdigit",
     "items", "join", "keys", "lower", "partition", "pop", "remove", "replace", "reverse", "setdefault", "split", "startswith",
-    "strip", "update", "upper", "values", "bit_length",
+    "strip", "update", "upper", "values", "bit_length", "zfill",
 )
 BARRED_NODES = (
     ast.AsyncFunctionDef, ast.Global, ast.Nonlocal, ast.Lambda, ast.GeneratorExp, ast.Set, ast.SetComp, ast.Await,
-    ast.Yield, ast.YieldFrom, ast.With, ast.Try, ast.Import, ast.AnnAssign, ast.NamedExpr, ast.Match, ast.JoinedStr,
+    ast.Yield, ast.YieldFrom, ast.With, ast.Import, ast.AnnAssign, ast.NamedExpr, ast.Match, ast.JoinedStr,
     ast.Div, ast.MatMult, ast.Assert, ast.Delete,
 )
+DEFINED = (ast.FunctionDef, ast.ClassDef)
 BARRED_NAMES = (
     "register", "mro", "elements", "open", "input", "law", "version_info", "with_traceback", "add_note", "attrgetter",
     "breakpoint", "builtins", "compile", "copyright", "credits", "delattr", "dir", "eval", "exec", "exit", "gc",
@@ -189,6 +207,14 @@ class Interface(unittest.TestCase):
                 self.assertEqual(held.__module__, "handsunread." + file)
                 if arguments or not inspect.isclass(held):
                     self.assertEqual(", ".join(inspect.signature(held).parameters), arguments, name)
+
+    def test_board(self):
+        # Each method stands in the class itself, and it has no others.
+        board = importlib.import_module("handsunread.board").Board
+        own = {name: held for name, held in vars(board).items() if inspect.isfunction(held)}
+        self.assertEqual(set(own), set(BOARD) | {"__init__"})
+        for name, arguments in BOARD.items():
+            self.assertEqual(", ".join(list(inspect.signature(own[name]).parameters)[1:]), arguments, name)
 
     def test_files(self):
         names = {path.stem for path in files()}
@@ -248,6 +274,17 @@ class Form(unittest.TestCase):
                         if isinstance(sign, (ast.Is, ast.IsNot)):
                             self.assertIsInstance(other, ast.Constant)
 
+    def test_what_is_caught(self):
+        for path in files():
+            for node in ast.walk(tree_of(path)):
+                if isinstance(node, ast.Try):
+                    self.assertEqual((node.orelse, node.finalbody), ([], []), path.name)
+                    for handler in node.handlers:
+                        self.assertIsNone(handler.name)
+                        named = handler.type.elts if isinstance(handler.type, ast.Tuple) else [handler.type]
+                        for word in named:
+                            self.assertIn(word.id, INTERFACE["errors"], path.name)
+
     def test_stars(self):
         for path in files():
             for node in ast.walk(tree_of(path)):
@@ -262,8 +299,13 @@ class Form(unittest.TestCase):
             self.assertEqual(len(imported), len(set(imported)), path.name)
             stored = stored_names(tree)
             defined = [node.name for node in ast.walk(tree) if isinstance(node, (ast.FunctionDef, ast.ClassDef))]
-            for name in stored + [name for name in defined if name != "__init__"]:
+            methods = [
+                node for owner in ast.walk(tree) if isinstance(owner, ast.ClassDef) for node in owner.body
+                if isinstance(node, ast.FunctionDef)
+            ]
+            for name in stored + [node.name for node in ast.walk(tree) if isinstance(node, DEFINED) and node not in methods]:
                 self.assertNotIn(name, imported, path.name)
+            for name in stored + [name for name in defined if name not in ("__init__", "__len__")]:
                 self.assertFalse(hasattr(builtins, name), (path.name, name))
                 self.assertNotIn(name, BARRED_NAMES)
                 self.assertTrue(name == "_" or not name.startswith("_"), name)
@@ -281,7 +323,7 @@ class Form(unittest.TestCase):
         for path in files():
             for node in ast.walk(tree_of(path)):
                 if isinstance(node, ast.Call) and isinstance(node.func, ast.Attribute):
-                    self.assertIn(node.func.attr, METHODS, path.name)
+                    self.assertIn(node.func.attr, METHODS + tuple(BOARD), path.name)
 
     def test_words(self):
         for path in files():
