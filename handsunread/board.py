@@ -54,7 +54,7 @@ class Board:
     def __init__(self, plant):
         # The PLANT behind each number of DEEDS, so that nothing need be done again.
         self._plants = [fixed(plant)]
-        self._record = []
+        self._done = []
         self._undone = []
 
     def plant(self):
@@ -64,13 +64,13 @@ class Board:
         return self._plants[0]
 
     def deeds(self):
-        return list(self._record)
+        return list(self._done)
 
     def __len__(self):
-        return len(self._record)
+        return len(self._done)
 
     def behind(self, m):
-        if not 0 <= m <= len(self._record):
+        if not 0 <= m <= len(self._done):
             raise NoNumber(m)
         return self._plants[m]
 
@@ -98,13 +98,13 @@ class Board:
     def do(self, deed):
         deed = fixed(deed)
         self._plants.append(done(self.plant(), deed))
-        self._record.append(deed)
+        self._done.append(deed)
         self._undone = []
 
     def undo(self):
-        if not self._record:
+        if not self._done:
             raise NothingDone()
-        deed = self._record.pop()
+        deed = self._done.pop()
         self._plants.pop()
         self._undone.append(deed)
         return deed
@@ -114,7 +114,7 @@ class Board:
             raise NothingDone()
         deed = self._undone.pop()
         self._plants.append(done(self.plant(), deed))
-        self._record.append(deed)
+        self._done.append(deed)
         return deed
 
     def is_sure(self, start, reading):
@@ -134,9 +134,9 @@ class Board:
         if self.is_sure(start, reading):
             raise Unfit()
         found = []
-        for place, deed in enumerate(self._record):
+        for place, deed in enumerate(self._done):
             if deed[0] in BLAMED:
-                plant = after_all(self.first(), self._record[:place] + self._record[place + 1:])
+                plant = after_all(self.first(), self._done[:place] + self._done[place + 1:])
                 if plant is not None and is_sure(plant, start, reading):
                     found.append(place)
         return found

@@ -106,11 +106,11 @@ def paper(claim):
 def deaf_paper(plant, teller, hearer):
     lot = heard_by(plant, teller)
     if hearer in lot:
-        return chain(plant, teller, hearer)
+        return hands_between(plant, teller, hearer)
     return lot, kept_with(plant[0], levers_of(plant, (teller,) + lot))
 
 
-def chain(plant, teller, hearer):
+def hands_between(plant, teller, hearer):
     """The hands from the one to the other, that hears of it, each reaching the next one; as few as can be."""
     pairs = links(plant)
     found, fresh = {}, [(teller,)]

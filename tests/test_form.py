@@ -170,6 +170,10 @@ BARRED_NAMES = (
     "getattr", "globals", "hasattr", "help", "id", "importlib", "license", "locals", "methodcaller", "os", "quit",
     "setattr", "super", "type", "vars", "sys",
 )
+BARRED_HEADS = (
+    "_wall", "_pe_", "_dcw_", "_enum_", "_cm_", "_twin_re_", "_lay_", "_law_", "_stub_", "_sre", "_WallAttr", "__",
+)
+BARRED_UNDERSCORES = ("_cold", "_tuplegetter", "_outside", "_record", "_written_out", "_member_names")
 BARRED_WORDS = (
     "type", "typing", "typing_extensions", "enum", "Enum", "IntEnum", "StrEnum", "Flag", "IntFlag", "Generic",
     "Protocol", "ABC", "ABCMeta", "namedtuple", "NamedTuple", "TypedDict", "TYPE_CHECKING", "abstractmethod",
@@ -324,6 +328,17 @@ class Form(unittest.TestCase):
             for node in ast.walk(tree_of(path)):
                 if isinstance(node, ast.Call) and isinstance(node.func, ast.Attribute):
                     self.assertIn(node.func.attr, METHODS + tuple(BOARD), path.name)
+
+    def test_underscores(self):
+        for path in files():
+            tree = tree_of(path)
+            names = stored_names(tree) + [node.attr for node in ast.walk(tree) if isinstance(node, ast.Attribute)]
+            names += [node.name for node in ast.walk(tree) if isinstance(node, DEFINED)]
+            for name in names:
+                if name.startswith("_") and name not in ("_", "__init__", "__len__"):
+                    self.assertRegex(name, "^_[a-z]", path.name)
+                    self.assertFalse(name.startswith(BARRED_HEADS), (path.name, name))
+                    self.assertNotIn(name.rstrip("_0123456789"), BARRED_UNDERSCORES, path.name)
 
     def test_words(self):
         for path in files():
